@@ -1,0 +1,1 @@
+"""Skiphall: a house of questionnaires, from the sheet to the told table."""
