@@ -127,6 +127,7 @@ class Form:
             raise BadCount("rows", len(laid))
         check_rows(laid)
         self.questions = {row.name: row for row, around in laid if is_question(row)}
+        self.repeated = {row.name: True for row, around in laid if is_question(row) and around is not None}
 
     def __eq__(self, other):
         return isinstance(other, Form) and self.rows == other.rows
@@ -144,6 +145,10 @@ class Form:
         if name not in self.questions:
             raise NoQuestion(name)
         return self.questions[name]
+
+    def in_rounds(self, name):
+        """Tell whether a question of this name stands in a Rounds."""
+        return name in self.repeated
 
 
 def is_question(row):

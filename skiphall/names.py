@@ -1,9 +1,9 @@
 """Names: what is one, and how texts that are none, or stand twice, are refused."""
 
 from skiphall.errors import NoName, Twice
+from skiphall.figures import FIGURES
 
 LETTERS = "abcdefghijklmnopqrstuvwxyz"
-FIGURES = "0123456789"
 LONGEST_NAME = 8
 
 

@@ -2,36 +2,11 @@
 
 import unittest
 
-from skiphall.conds import Above, Below, Both, Either, Has, Is, Not
+from skiphall.conds import Above, Below, Both, Either, Is, Not
 from skiphall.errors import NoQuestion
 from skiphall.forms import Check, Form, Number, One, Rounds, Section, Some
 from tests.refusing import RefusalCase
-
-
-def household():
-    """Rows of all kinds, with conditions of all kinds."""
-    return [
-        One("home", ["house", "flat", "none"]),
-        Section(
-            [
-                Number("heads", 0, 4),
-                Some("pets", ["cat", "dog"], where=Not(Is("home", "none"))),
-                Section([One("garden", ["yes", "no"], where=Is("home", "house"))]),
-            ],
-            where=Either(Is("home", "house"), Is("home", "flat")),
-        ),
-        Check("room", Below("heads", 4), where=Has("pets", "dog")),
-        Rounds(
-            "heads",
-            [
-                Number("age", 0, 120),
-                Section([One("job", ["paid", "free"], where=Above("age", 15))]),
-                Check("old", Not(Both(Is("job", "paid"), Above("age", 90)))),
-            ],
-            where=Has("pets", "cat"),
-        ),
-        Number("left", -5, -1),
-    ]
+from tests.samples import household
 
 
 def numbers(many):
