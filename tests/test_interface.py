@@ -9,6 +9,13 @@ FUNCTIONS = {
     "formtexts": {"form_rows": "form", "read_form": "rows"},
     "walks": {"walked": "form answers"},
     "editions": {"led": "answers edition", "led_over": "answers editions"},
+    "grids": {"grid_of": "box first second", "senders": "box first second * row column"},
+    "fences": {
+        "fits": "grid hidden table",
+        "reach": "grid hidden * cell",
+        "bound": "grid hidden * cell fence",
+        "fences": "grid hidden * cell",
+    },
 }
 
 # Classes by their file, with the arguments of their methods; one of which no arguments are listed has None.
@@ -19,6 +26,12 @@ CLASSES = {
         "Filling": {"__init__": "form", "walk": "", "put": "spot answer", "clear": "spot", "kept": "", "back": ""},
     },
     "editions": {"Edition": {"__init__": "number form * calls"}},
+    "boxes": {
+        "Box": {
+            "__init__": "", "take": "event", "merge": "other", "edition": "", "form_now": "", "events": "",
+            "clashes": "", "people": "", "stands": "who", "all_counted": "",
+        },
+    },
 }
 
 
