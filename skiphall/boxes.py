@@ -30,11 +30,17 @@ class Box:
 
     def merge(self, other):
         """Take all events of another box, or none where an edition of it is refused."""
-        for key in sorted([key for key in other.came if key[0] == "edition"]):
-            refuse_unlike(self.came, other.came[key])
+        numbers = sorted([key[1] for key in other.came if key[0] == "edition"])
+        for number in numbers:
+            refuse_unlike(self.came, other.came[("edition", number)])
         for key in list(other.came):
             if key not in self.came:
                 self.came[key] = other.came[key]
+
+    def rewind(self, many):
+        """Take back what came behind the first events, of which there are so many."""
+        for key in list(self.came)[many:]:
+            del self.came[key]
 
     def edition(self):
         """Tell the number of the edition counted in, 0 where there is none."""

@@ -8,6 +8,11 @@ def cells_of(grid):
     return [(row, column) for row in range(len(grid)) for column in range(len(grid[0]))]
 
 
+def all_but_last(grid):
+    """List the cells of a grid that can be hidden, sorted."""
+    return cells_of(grid)[:-1]
+
+
 def last_cell(grid):
     """Tell the last cell of all."""
     return (len(grid) - 1, len(grid[0]) - 1)

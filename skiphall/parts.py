@@ -1,7 +1,7 @@
 """Parts: a row that is read part by part, and refused where a part cannot stand."""
 
 from skiphall.errors import BadRow
-from skiphall.figures import is_number_text
+from skiphall.figures import is_count_text, is_number_text
 
 NO_NAMES = ("", "where", "must", "and", "or", "not", "(", ")")
 
@@ -51,6 +51,25 @@ class Parts:
         if not is_number_text(self.ahead()):
             raise BadRow(self.row, self.place)
         return int(self.take_part())
+
+    def take_text(self):
+        """Take a part that may be any but an empty one."""
+        if self.ahead() == "":
+            raise BadRow(self.row, self.place)
+        return self.take_part()
+
+    def take_count(self, most):
+        """Take a number from nought on, of so many figures at most."""
+        if not is_count_text(self.ahead(), most):
+            raise BadRow(self.row, self.place)
+        return int(self.take_part())
+
+    def take_rest(self):
+        """Take all parts that are left, one of them at least, as one text."""
+        texts = [self.take_text()]
+        while not self.ended():
+            texts.append(self.take_text())
+        return " ".join(texts)
 
     def finish(self):
         """Refuse a part that is left."""

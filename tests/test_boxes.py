@@ -6,7 +6,7 @@ import unittest
 from skiphall.boxes import Box
 from skiphall.conds import Is
 from skiphall.editions import Edition
-from skiphall.errors import BadCount, HallError, NoEdition, NoEvent, NoName, Unlike
+from skiphall.errors import BadCount, NoEdition, NoEvent, NoName, Unlike
 from skiphall.forms import Form, Number, One
 from tests.boxing import AGE, PET, PLACE, all_told, box_of, edition, made_events, sheet
 from tests.refusing import RefusalCase
@@ -322,11 +322,11 @@ class AnyOrderTest(unittest.TestCase):
             self.assertEqual(all_told(boxes[0]), wanted)
 
     def test_unlike_editions_are_refused_wherever_they_come(self):
-        where = Form([PLACE, Number("age", 0, 9, where=Is("place", "flat"))])
-        for events in ([edition(1, PLACE), ("edition", Edition(1, where))], [("edition", Edition(1, where)), edition(1, PLACE)]):
-            box = box_of(events[0])
-            self.assertRaises(HallError, box.take, events[1])
-            self.assertEqual(box.form_now(), events[0][1].form)
+        one, other = edition(1, PLACE), edition(1, PLACE, Number("age", 0, 9, where=Is("place", "flat")))
+        for first, second in ((one, other), (other, one)):
+            box = box_of(first)
+            self.assertRaises(Unlike, box.take, second)
+            self.assertEqual(box.form_now(), first[1].form)
 
 
 if __name__ == "__main__":

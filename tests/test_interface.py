@@ -16,6 +16,12 @@ FUNCTIONS = {
         "bound": "grid hidden * cell fence",
         "fences": "grid hidden * cell",
     },
+    "hides": {
+        "is_safe": "grid hidden * few width",
+        "hidden_cells": "grid * few width",
+        "told": "box first second * few width",
+    },
+    "texts": {"answers_row": "answers", "read_answers": "text"},
 }
 
 # Classes by their file, with the arguments of their methods; one of which no arguments are listed has None.
@@ -32,6 +38,15 @@ CLASSES = {
             "clashes": "", "people": "", "stands": "who", "all_counted": "",
         },
     },
+    "hides": {"Told": None},
+    "book": {
+        "Book": {
+            "__init__": "* few width", "box": "", "take": "event", "merge": "box", "tell": "name first second",
+            "names": "", "table": "name", "stale": "", "retell": "name", "drop": "name", "many": "", "back": "",
+            "tried": "event first second",
+        },
+    },
+    "desk": {"Desk": {"__init__": "* few width", "tell": "row"}},
 }
 
 

@@ -100,7 +100,8 @@ class StandsTest(unittest.TestCase):
         # A figure stands above a quote and a bracket, N above these, and no pair at all above a pair.
         self.assert_stands(("counted", {("age", 0): 1}), edition(1, AGE), *[
             sheet("ann", 1, 1, age=age) for age in ("9", 1, ())])
-        self.assert_stands(("open", ("age", 0)), edition(1, AGE), sheet("ann", 1, 1, age=1), sheet("ann", 1, 1, age=None))
+        self.assert_stands(
+            ("open", ("age", 0)), edition(1, AGE), sheet("ann", 1, 1, age=1), sheet("ann", 1, 1, age=None))
         self.assert_stands(
             ("open", ("age", 0)), edition(1, AGE), sheet("ann", 1, 1, age=1), sheet("ann", 1, 1))
 
